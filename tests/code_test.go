@@ -443,6 +443,19 @@ func TestShapesOneWay(t *testing.T) {
 	wantShapes(t, cBeside(f), 1, "[1 [0 0] []] [1 [0 0] [1]] [1 [0 0] [1 2]] [1 [0 0] [1 2 3]] [1 [0 0] [1 2]] [1 [0 2] [1]] [1 [1 2] []]")
 }
 
+// A slot gives back the type that it has, whichever it is.
+func TestCodeLoads(t *testing.T) {
+	for typ := 1; typ <= 10; typ++ {
+		for result := 1; result <= 10; result++ {
+			list := []impl.Ins{cOp(impl.InsLoad, 0), cOp(impl.InsReturn, 1)}
+			wantRight(t, []int{typ, result}, cBeside(cFn("f", []int{typ}, result, 1, list...)), typ == result, 5, 1, 1)
+			list = append([]impl.Ins{cOf(typ), cOp(impl.InsStore, 0)}, list...)
+			wantRight(t, []int{typ, result}, cBeside(cFn("f", []int{result}, result, 1, list...)), typ == result, 5, 1, 3)
+		}
+		wantFlaw(t, typ, cBeside(cFn("f", []int{typ}, typ, 2, cOp(impl.InsLoad, 1), cOp(impl.InsReturn, 1))), 5, 1, 0)
+	}
+}
+
 // Places that nothing leads to have no shape, and are never unfit, whatever stands there; what they would lead to plays no part.
 func TestShapesOfNoWay(t *testing.T) {
 	back, drop := cOp(impl.InsReturn, 0), cOp(impl.InsDrop, 0)
