@@ -57,19 +57,23 @@ func modelMean(tree impl.Tree, j impl.Job, replies []impl.Reply) []impl.Turn {
 	if impl.Check(tree) != (impl.Fault{}) || !isModelJob(j) || len(replies) > 100 || slices.ContainsFunc(replies, wrong) {
 		return []impl.Turn{{Code: 9}}
 	}
-	r := &replay{job: j, replies: replies, files: map[string]string{}}
-	r.turns = append(r.turns, r.ended(tree))
+	r := newReplay(j, replies)
+	r.turns = append(r.turns, r.ended(func() impl.Value { return r.program(tree, j.Arg) }))
 	return r.turns
 }
 
+func newReplay(j impl.Job, replies []impl.Reply) *replay {
+	return &replay{job: j, replies: replies, files: map[string]string{}}
+}
+
 // ended runs a program until an end is thrown.
-func (r *replay) ended(tree impl.Tree) (t impl.Turn) {
+func (r *replay) ended(main func() impl.Value) (t impl.Turn) {
 	defer func() {
 		// Anything else that is thrown is a fault of this way itself.
 		t = recover().(impl.Turn)
 	}()
 	r.step()
-	text := r.program(tree, r.job.Arg).Text
+	text := main().Text
 	for _, name := range r.job.Outs {
 		if _, ok := r.files[name]; !ok {
 			r.end(2, "lacks "+name)
@@ -111,9 +115,9 @@ func (c callOf) body() impl.Value {
 	return v
 }
 
-func (c callOf) breaks(word string) {
-	c.end(2, word+" in "+c.nodes[c.fn].Text)
-}
+func (c callOf) breaks(word string) { c.breaksIn(c.nodes[c.fn].Text, word) }
+
+func (r *replay) breaksIn(fn, word string) { r.end(2, word+" in "+fn) }
 
 // do does a block or statement; it gives the kind of node by which it was left, 0 if it was done to its end.
 func (c callOf) do(i int) (int, impl.Value) {
@@ -152,24 +156,28 @@ func (c callOf) do(i int) (int, impl.Value) {
 	case impl.NodeFail:
 		c.end(1, v[0].Text)
 	case impl.NodeWrite:
-		c.writes(v[0].Text, v[1].Text)
+		c.writes(c.nodes[c.fn].Text, v[0].Text, v[1].Text)
 	case impl.NodeSay:
-		if len(c.said)+1 > 50 {
-			c.breaks("said")
-		}
-		c.said = append(c.said, v[0].Text)
+		c.says(c.nodes[c.fn].Text, v[0].Text)
 	}
 	return 0, impl.Value{}
 }
 
-func (c callOf) writes(name, text string) {
+func (r *replay) writes(fn, name, text string) {
 	if !fileForm.MatchString(name) {
-		c.breaks("name")
+		r.breaksIn(fn, "name")
 	}
-	if !slices.Contains(c.job.Outs, name) {
-		c.breaks("output")
+	if !slices.Contains(r.job.Outs, name) {
+		r.breaksIn(fn, "output")
 	}
-	c.files[name] = text
+	r.files[name] = text
+}
+
+func (r *replay) says(fn, text string) {
+	if len(r.said)+1 > 50 {
+		r.breaksIn(fn, "said")
+	}
+	r.said = append(r.said, text)
 }
 
 func (c callOf) loop(kids []int) (int, impl.Value) {
@@ -254,41 +262,50 @@ func (c callOf) calling(fn int, args []impl.Value) impl.Value {
 }
 
 func (c callOf) looking(op int, v []impl.Value) impl.Value {
-	name, kind := v[0].Text, []int{0, 1, 2, 3, 1}[op]
+	fn := c.nodes[c.fn].Text
+	gives := c.looksFor(fn, op, v[0].Text)
+	if op != impl.BuiltTool {
+		return gives
+	}
+	tree := c.toolOf(fn, gives.Text)
+	c.step()
+	return c.program(tree, v[1].Text)
+}
+
+// looksFor is what a look gives in a function with this name; with a tool it is the tool's text.
+func (r *replay) looksFor(fn string, op int, name string) impl.Value {
 	if op == impl.BuiltList && !listForm.MatchString(name) || op != impl.BuiltList && !fileForm.MatchString(name) {
-		c.breaks("name")
+		r.breaksIn(fn, "name")
 	}
-	if c.looks+1 > 100 {
-		c.end(3, "")
+	if r.looks+1 > 100 {
+		r.end(3, "")
 	}
-	stop := impl.Turn{Kind: kind, Name: name, Steps: c.steps, Said: slices.Clone(c.said)}
-	if c.looks == len(c.replies) {
+	stop := impl.Turn{Kind: []int{0, 1, 2, 3, 1}[op], Name: name, Steps: r.steps, Said: slices.Clone(r.said)}
+	if r.looks == len(r.replies) {
 		panic(stop)
 	}
-	c.turns = append(c.turns, stop)
-	reply := c.replies[c.looks]
-	c.looks++
+	r.turns = append(r.turns, stop)
+	reply := r.replies[r.looks]
+	r.looks++
 	switch {
 	case op == impl.BuiltHas:
 		return vBool(reply.Code != 4)
 	case op != impl.BuiltList && reply.Code != 0:
-		c.end(reply.Code, name)
-	case op == impl.BuiltTool:
-		return c.tools(reply.Text, v[1].Text)
+		r.end(reply.Code, name)
 	}
 	return vText(reply.Text)
 }
 
-func (c callOf) tools(src, arg string) impl.Value {
+// toolOf is the tree of a tool's text, if it may be called.
+func (r *replay) toolOf(fn, src string) impl.Tree {
 	tree, fault := impl.Parse(src)
 	if fault.Code != 0 || impl.Check(tree).Code != 0 {
-		c.breaks("tool")
+		r.breaksIn(fn, "tool")
 	}
-	if c.calls+1 > 40 {
-		c.breaks("deep")
+	if r.calls+1 > 40 {
+		r.breaksIn(fn, "deep")
 	}
-	c.step()
-	return c.program(tree, arg)
+	return tree
 }
 
 func sameTurn(a, b impl.Turn) bool {
