@@ -313,7 +313,7 @@ func sameTurn(a, b impl.Turn) bool {
 		a.Over == b.Over && a.Code == b.Code && a.Text == b.Text && a.Kind == b.Kind && a.Name == b.Name && a.Steps == b.Steps
 }
 
-// checkMean holds Mean of a tree, and of the folded one (P7), against the second way, with all replies, with beginnings of them and with more of them (P8). It gives what Mean answers to all of them.
+// checkMean holds Mean of a tree, and of the folded one (P7), against the second way, with all replies, with beginnings of them and with more of them (P8); and so what the machine shows (P13). It gives what Mean answers to all of them.
 func checkMean(t *testing.T, tree impl.Tree, j impl.Job, replies []impl.Reply) impl.Turn {
 	t.Helper()
 	turns := modelMean(tree, j, replies)
@@ -339,6 +339,7 @@ func checkMean(t *testing.T, tree impl.Tree, j impl.Job, replies []impl.Reply) i
 	if turns[last].Over && len(replies) < 100 {
 		ask(append(slices.Clone(replies), impl.Reply{Text: "more"}), turns[last])
 	}
+	checkHeart(t, tree, j, replies, turns)
 	return turns[last]
 }
 

@@ -702,6 +702,8 @@ func TestMeanTools(t *testing.T) {
 		{"fn f() -> text { return \"f\"; } " + mainOf("return f() + tool(\"t\", \"\") + f();"), given("fn f() -> text { return \"g\"; } " + mainOf("return f();")), done("fgf", 10)},
 		{"fn f() -> text { return \"f\"; } " + mainOf("return tool(\"t\", \"\");"), given(mainOf("return f();")), ended(impl.Broken, "tool in main", 2)},
 		{mainOf("let a = \"a\"; let b = tool(\"t\", \"\"); return a + b;"), given(mainOf("let b = 1; let a = b + 1; return dec(a);")), done("a2", 8)},
+		// A tool's main may call itself, and only its own.
+		{mainOf("return tool(\"t\", \"z\") + arg();"), []impl.Reply{{Text: mainOf("if has(\"x\") { return \"in\"; } return main() + arg();")}, goneReply, goneReply, belowReply}, done("inzzq", 11)},
 		// The name of a tool is that of a file, which may be anything.
 		{mainOf("return tool(\"main\", \"\");"), given(mainOf("return \"r\";")), done("r", 4)},
 		// What ends a tool ends the run.
