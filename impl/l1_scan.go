@@ -188,11 +188,24 @@ func readInt(rest string, words map[string]int) piece {
 
 // readText reads a text in quotes.
 func readText(rest string) piece {
+	text, size := unquoted(rest)
+	switch {
+	case size == 0:
+		return piece{code: faultText}
+	case len(text) > MaxText:
+		// A text is measured only once it is read: a wrong byte behind MaxText others is told ahead of the size.
+		return piece{code: faultLong}
+	}
+	return piece{tok: Token{Kind: TokText, Text: text}, size: size}
+}
+
+// unquoted is what the text in quotes stands for that rest begins with, and how many bytes it takes there: none if it has a wrong byte or no end.
+func unquoted(rest string) (string, int) {
 	var text strings.Builder
 	for i := 1; i < len(rest); i++ {
 		c := rest[i]
 		if c == '"' {
-			return endText(text.String(), i+1)
+			return text.String(), i + 1
 		}
 		if c < 32 || c > 126 {
 			break
@@ -207,15 +220,7 @@ func readText(rest string) piece {
 		}
 		text.WriteByte(c)
 	}
-	return piece{code: faultText}
-}
-
-// endText measures a text only here, at its end: a wrong byte behind MaxText others is told ahead of the size.
-func endText(text string, size int) piece {
-	if len(text) > MaxText {
-		return piece{code: faultLong}
-	}
-	return piece{tok: Token{Kind: TokText, Text: text}, size: size}
+	return "", 0
 }
 
 // readByte reads the two digits behind a backslash.
